@@ -1,0 +1,1 @@
+"""Folded sheets, imposed pages, gathered books, and the work of a bindery."""

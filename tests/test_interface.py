@@ -1,0 +1,50 @@
+import importlib
+import inspect
+import unittest
+
+INTERFACE = {
+    "folding": {"is_folding": "text", "sheet_size": "folding", "fold": "folding", "states": "folding",
+                "place_of": "folding panel", "find_folding": "panels", "foldings": "across down"},
+    "creases": {"creases": "folding", "alike_foldings": "folding", "find_by_creases": "across down"},
+    "edges": {"joints": "folding", "loose_leaves": "folding"},
+    "dummies": {"dummy": "folding", "read_dummy": "text", "map_of": "folding"},
+    "imposition": {"impose": "folding", "locate_page": "folding page", "reads_on": "folding layout"},
+    "turning": {"turn_form": "folding", "tumble_form": "folding", "two_copies": "form way",
+                "is_good_form": "folding form way"},
+    "tickets": {"ticket_sheets": "many columns rows", "stacked": "grids"},
+    "books": {"check_book": "book", "position_count": "book", "blank_count": "book", "locate": "book position",
+              "position_of": "book sheet page", "layout_of": "book sheet"},
+    "choosing": {"standard": "folds", "fewest_sheets": "pages most", "cheapest_sheets": "pages costs"},
+    "forms": {"pages_on": "book sheet side", "plates": "book shift inks", "best_shift": "book inks"},
+    "spreads": {"spreads": "book", "is_natural": "book position", "best_spread_shift": "book firsts"},
+}
+ERRORS = {"BinderError": None, "BadBook": "reason", "BadArgument": "reason", "BadText": "line reason",
+          "BadDeed": "reason", "BadJournal": "place"}
+
+
+class Interface(unittest.TestCase):
+    def test_functions_are_defined_where_they_are_listed(self):
+        for name, functions in INTERFACE.items():
+            module = importlib.import_module("gathersheets." + name)
+            for function, parameters in functions.items():
+                told = getattr(module, function)
+                self.assertTrue(inspect.isfunction(told))
+                self.assertEqual(told.__module__, module.__name__)
+                self.assertEqual(list(inspect.signature(told).parameters), parameters.split())
+
+    def test_errors_are_defined_where_they_are_listed(self):
+        module = importlib.import_module("gathersheets.errors")
+        for name, parameters in ERRORS.items():
+            told = getattr(module, name)
+            self.assertTrue(inspect.isclass(told))
+            self.assertEqual(told.__module__, module.__name__)
+            if parameters is not None:
+                own = vars(told)["__init__"]
+                self.assertEqual(list(inspect.signature(own).parameters), ["self"] + parameters.split())
+
+    def test_what_the_document_shows_ahead_of_all(self):
+        from gathersheets.books import layout_of
+        from gathersheets.folding import find_folding, fold
+        self.assertEqual((fold("TL")[0], find_folding(((0, 1), (0, 0), (1, 0), (1, 1)))),
+                         ((0, 1, "back", "up"), "TL"))
+        self.assertEqual(layout_of((("L",), "gathered", 3), 0), (((2, 3),), ((1, 0),)))

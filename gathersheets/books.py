@@ -5,6 +5,7 @@ from gathersheets.folding import is_folding
 from gathersheets.imposition import impose
 
 MOST_SHEETS = 8
+BINDINGS = ("gathered", "inset")
 
 
 def check_book(book):
@@ -12,7 +13,7 @@ def check_book(book):
     foldings, binding, pages = book
     if not _are_foldings(foldings):
         raise BadBook("folding")
-    if binding not in ("gathered", "inset"):
+    if binding not in BINDINGS:
         raise BadBook("binding")
     if binding == "inset" and not all([folding.endswith("L") for folding in foldings]):
         raise BadBook("spine")
@@ -29,6 +30,11 @@ def _are_foldings(foldings):
 def position_count(book):
     """How many positions a book has."""
     return sum([2 << len(folding) for folding in book[0]])
+
+
+def leaf_count(book):
+    """How many leaves a book has."""
+    return position_count(book) // 2
 
 
 def blank_count(book):

@@ -1,5 +1,6 @@
 """The fewest and the cheapest sheets for a number of pages."""
 
+from gathersheets.figures import rounded_up
 from gathersheets.folding import MOST_FOLDS
 
 LEAST_PAGES = 4
@@ -25,7 +26,7 @@ def fewest_sheets(pages, most):
 
 def _units(pages):
     """How many of the shortest standard foldings have pages enough."""
-    return (pages + LEAST_PAGES - 1) // LEAST_PAGES
+    return rounded_up(pages, LEAST_PAGES)
 
 
 def cheapest_sheets(pages, costs):

@@ -1,10 +1,12 @@
 """Tickets that lie in their order when their sheets are cut into piles and these are laid on one another."""
 
+from gathersheets.figures import rounded_up
+
 
 def ticket_sheets(many, columns, rows):
     """The fewest sheets for so many tickets, each one a grid."""
     places = columns * rows
-    sheets = (many + places - 1) // places
+    sheets = rounded_up(many, places)
     told = []
     for sheet in range(sheets):
         tickets = [place * sheets + sheet + 1 for place in range(places)]

@@ -17,6 +17,15 @@ INTERFACE = {
     "choosing": {"standard": "folds", "fewest_sheets": "pages most", "cheapest_sheets": "pages costs"},
     "forms": {"pages_on": "book sheet side", "plates": "book shift inks", "best_shift": "book inks"},
     "spreads": {"spreads": "book", "is_natural": "book position", "best_spread_shift": "book firsts"},
+    "washes": {"wash_cost": "jobs order room", "best_job_order": "jobs room"},
+    "creep": {"creep_of": "book position thickness", "widest_creep": "book thickness"},
+    "sections": {"fewest_sections": "leaves most", "most_leaves": "creep thickness"},
+    "sewing": {"all_along": "sections stations", "two_on": "sections stations",
+               "thread_length": "sewn places rise"},
+    "covers": {"bulk": "book thickness", "case": "book page thickness board hinge square turn",
+               "jacket": "told hinge flap", "title_places": "height lengths"},
+    "parents": {"straight_yield": "parent sheet", "cut_yield": "parent sheet",
+                "best_parent": "parents prices sheet many"},
 }
 ERRORS = {"BinderError": None, "BadBook": "reason", "BadArgument": "reason", "BadText": "line reason",
           "BadDeed": "reason", "BadJournal": "place"}

@@ -26,6 +26,13 @@ INTERFACE = {
                "jacket": "told hinge flap", "title_places": "height lengths"},
     "parents": {"straight_yield": "parent sheet", "cut_yield": "parent sheet",
                 "best_parent": "parents prices sheet many"},
+    "chapters": {"beginnings": "chapters order rule", "blanks_within": "chapters order rule",
+                 "length_of": "chapters order rule", "best_order": "chapters"},
+    "booktext": {"book_text": "book", "parse_book": "text", "layout_text": "layout"},
+    "folios": {"folio": "page front", "read_folio": "text front", "folio_list": "layout front"},
+    "spoilage": {"good_sheets": "stages sheets", "survivors": "stages sheets", "required": "stages wanted"},
+    "orders": {"order_list": "orders copies ream", "most_copies": "orders paper"},
+    "quotes": {"quote": "book inks copies orders prices", "best_quote": "pages copies stages prices"},
 }
 ERRORS = {"BinderError": None, "BadBook": "reason", "BadArgument": "reason", "BadText": "line reason",
           "BadDeed": "reason", "BadJournal": "place"}
@@ -56,4 +63,6 @@ class Interface(unittest.TestCase):
         from gathersheets.folding import find_folding, fold
         self.assertEqual((fold("TL")[0], find_folding(((0, 1), (0, 0), (1, 0), (1, 1)))),
                          ((0, 1, "back", "up"), "TL"))
-        self.assertEqual(layout_of((("L",), "gathered", 3), 0), (((2, 3),), ((1, 0),)))
+        from gathersheets.spoilage import required
+        self.assertEqual((layout_of((("L",), "gathered", 3), 0), required(((10, 20),), 95)),
+                         ((((2, 3),), ((1, 0),)), 109))

@@ -11,7 +11,7 @@ BUILTINS = set("""len range enumerate zip min max sum abs sorted reversed int st
 METHODS = set("""append clear copy count endswith extend find get index insert isalnum isalpha isdigit islower isspace
     isupper items join keys ljust lower lstrip partition pop remove replace reverse rfind rjust rpartition rsplit rstrip
     setdefault split splitlines startswith strip update upper values zfill bit_length translate maketrans
-    add discard""".split())
+    removeprefix add discard""".split())
 BARRED = set("""type typing enum Enum namedtuple NamedTuple ABC dataclass register mro elements open input law
     eval exec id dir vars globals locals hash map filter next iter round format print""".split())
 NODES_LEFT_OUT = (ast.AsyncFunctionDef, ast.Await, ast.Global, ast.Import, ast.Div, ast.Lambda, ast.Yield, ast.Set)

@@ -1,4 +1,4 @@
-"""What several parts do with numbers: dividing them and rounding up, and reading them."""
+"""What several parts do with numbers: dividing them and rounding up, reading them, and telling them."""
 
 FIGURES = "0123456789"
 
@@ -19,3 +19,8 @@ def read_number(text):
     for sign in text:
         number = 10 * number + FIGURES.index(sign)
     return number
+
+
+def are_integers(thing):
+    """Whether it is a tuple of integers, whatever it is."""
+    return isinstance(thing, tuple) and all([isinstance(part, int) for part in thing])

@@ -1,5 +1,7 @@
 """How a sheet lies folded, and which folding has a given stack."""
 
+from gathersheets.figures import are_integers
+
 MOST_FOLDS = 5
 OTHER_FACE = {"front": "back", "back": "front"}
 OTHER_HEAD = {"up": "down", "down": "up"}
@@ -106,7 +108,7 @@ def _are_panels(panels):
 
 
 def _is_panel(panel):
-    return isinstance(panel, tuple) and len(panel) == 2 and all([isinstance(part, int) for part in panel])
+    return are_integers(panel) and len(panel) == 2
 
 
 def _only_candidate(panels):

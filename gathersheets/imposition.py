@@ -1,5 +1,6 @@
 """Where the pages of a folded sheet are printed, and which way up."""
 
+from gathersheets.figures import are_integers
 from gathersheets.folding import OTHER_FACE, fold, sheet_size
 
 
@@ -38,8 +39,4 @@ def _is_layout(thing):
 
 def is_grid(thing):
     """Whether it is a tuple of rows of integers, whatever it is."""
-    return isinstance(thing, tuple) and all([_is_row(row) for row in thing])
-
-
-def _is_row(thing):
-    return isinstance(thing, tuple) and all([isinstance(cell, int) for cell in thing])
+    return isinstance(thing, tuple) and all([are_integers(row) for row in thing])

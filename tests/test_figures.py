@@ -1,6 +1,7 @@
 import unittest
 
-from gathersheets.figures import read_number, rounded_up
+from gathersheets.figures import are_integers, read_number, rounded_up
+from tests.samples import OTHER_THINGS
 
 
 class Figures(unittest.TestCase):
@@ -17,3 +18,9 @@ class Figures(unittest.TestCase):
 
     def test_rounding_up(self):
         self.assertEqual([rounded_up(many, 3) for many in range(8)], [0, 1, 1, 1, 2, 2, 2, 3])
+
+    def test_tuples_of_integers(self):
+        for thing in ((), (0,), (-3, 5, 5), tuple(range(99))):
+            self.assertIs(are_integers(thing), True)
+        for thing in OTHER_THINGS + [[1], (1, "2"), (1, None), (1.0,), ((1,),), {1}]:
+            self.assertIs(are_integers(thing), type(thing) is tuple and set(map(type, thing)) <= {int}, thing)

@@ -33,6 +33,13 @@ INTERFACE = {
     "spoilage": {"good_sheets": "stages sheets", "survivors": "stages sheets", "required": "stages wanted"},
     "orders": {"order_list": "orders copies ream", "most_copies": "orders paper"},
     "quotes": {"quote": "book inks copies orders prices", "best_quote": "pages copies stages prices"},
+    "collation": {"marks_of": "pile steps", "misplaced": "pile sheets steps", "faults": "pile sheets"},
+    "signatures": {"signature": "sheet", "read_signature": "text", "mark_at": "book position"},
+    "stairs": {"picture": "pile steps", "read_picture": "text"},
+    "looks": {"look_number": "sheets steps", "looks": "sheets steps most", "hidden_pairs": "sheets steps",
+              "looks_right": "pile sheets rows", "pair_of_rows": "sheets most"},
+    "mending": {"mending": "pile sheets", "is_mending": "pile sheets pair"},
+    "swaps": {"fewest_swaps": "pile", "swap_plan": "pile", "is_swap_plan": "pile plan"},
 }
 ERRORS = {"BinderError": None, "BadBook": "reason", "BadArgument": "reason", "BadText": "line reason",
           "BadDeed": "reason", "BadJournal": "place"}
@@ -63,6 +70,7 @@ class Interface(unittest.TestCase):
         from gathersheets.folding import find_folding, fold
         self.assertEqual((fold("TL")[0], find_folding(((0, 1), (0, 0), (1, 0), (1, 1)))),
                          ((0, 1, "back", "up"), "TL"))
+        from gathersheets.looks import look_number
         from gathersheets.spoilage import required
-        self.assertEqual((layout_of((("L",), "gathered", 3), 0), required(((10, 20),), 95)),
-                         ((((2, 3),), ((1, 0),)), 109))
+        self.assertEqual((layout_of((("L",), "gathered", 3), 0), required(((10, 20),), 95), look_number(4, 2)),
+                         ((((2, 3),), ((1, 0),)), 109, 16))

@@ -12,6 +12,7 @@ METHODS = set("""append clear copy count endswith extend find get index insert i
     isupper items join keys ljust lower lstrip partition pop remove replace reverse rfind rjust rpartition rsplit rstrip
     setdefault split splitlines startswith strip update upper values zfill bit_length translate maketrans
     removeprefix add discard""".split())
+LIBRARY = {"math": {"lcm"}}
 BARRED = set("""type typing enum Enum namedtuple NamedTuple ABC dataclass register mro elements open input law
     eval exec id dir vars globals locals hash map filter next iter round format print""".split())
 NODES_LEFT_OUT = (ast.AsyncFunctionDef, ast.Await, ast.Global, ast.Import, ast.Div, ast.Lambda, ast.Yield, ast.Set)
@@ -48,7 +49,9 @@ class Language(unittest.TestCase):
     def test_imports_come_from_the_file_that_defines_the_name(self):
         for path, tree in self.trees():
             for node in ast.walk(tree):
-                if isinstance(node, ast.ImportFrom):
+                if isinstance(node, ast.ImportFrom) and node.module in LIBRARY:
+                    self.assertTrue({name.name for name in node.names} <= LIBRARY[node.module], path)
+                elif isinstance(node, ast.ImportFrom):
                     self.assertEqual(node.level, 0)
                     self.assertTrue(node.module.startswith("gathersheets."), path)
                     source = ast.parse((FOLDER / (node.module.split(".")[1] + ".py")).read_text())
@@ -60,7 +63,7 @@ class Language(unittest.TestCase):
 
     def test_statements_builtins_and_methods(self):
         own = {node.name for _, tree in self.trees() for node in ast.walk(tree)
-               if isinstance(node, (ast.FunctionDef, ast.ClassDef))}
+               if isinstance(node, (ast.FunctionDef, ast.ClassDef))}.union(*LIBRARY.values())
         for path, tree in self.trees():
             for node in ast.walk(tree):
                 self.assertNotIsInstance(node, NODES_LEFT_OUT, path)

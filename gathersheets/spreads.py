@@ -13,6 +13,12 @@ def is_natural(book, position):
     return _is_natural_at(printed_places(book), position)
 
 
+def natural_firsts(book):
+    """The first positions of all natural spreads."""
+    places = printed_places(book)
+    return tuple([first for first, _ in spreads(book) if _is_natural_at(places, first)])
+
+
 def _is_natural_at(places, position):
     first = places.get(position)
     second = places.get(position + 1)

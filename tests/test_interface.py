@@ -40,9 +40,18 @@ INTERFACE = {
               "looks_right": "pile sheets rows", "pair_of_rows": "sheets most"},
     "mending": {"mending": "pile sheets", "is_mending": "pile sheets pair"},
     "swaps": {"fewest_swaps": "pile", "swap_plan": "pile", "is_swap_plan": "pile plan"},
+    "days": {"course": "sheets copies works", "length": "sheets copies works"},
+    "presses": {"least_time": "times presses", "first_assignment": "times presses", "time_of": "times assignment",
+                "bound": "times presses", "is_assignment": "times presses assignment",
+                "schedule": "times assignment"},
+    "shelves": {"fewest_shelves": "thicknesses copies width"},
+    "reports": {"report": "job", "book_report": "book inks thickness"},
+    "journal": {"replay": "sheets copies text"},
 }
 ERRORS = {"BinderError": None, "BadBook": "reason", "BadArgument": "reason", "BadText": "line reason",
           "BadDeed": "reason", "BadJournal": "place"}
+JOB = {"__init__": "sheets copies", "do": "deed", "undo": "", "counts": "", "copies": "", "gatherable": "",
+       "shortfall": "", "waste": "", "branch": "", "journal": "", "wanted": ""}
 
 
 class Interface(unittest.TestCase):
@@ -64,6 +73,14 @@ class Interface(unittest.TestCase):
             if parameters is not None:
                 own = vars(told)["__init__"]
                 self.assertEqual(list(inspect.signature(own).parameters), ["self"] + parameters.split())
+
+    def test_the_methods_of_a_job_are_defined_in_its_class(self):
+        module = importlib.import_module("gathersheets.jobs")
+        self.assertTrue(inspect.isclass(module.Job))
+        self.assertEqual(module.Job.__module__, module.__name__)
+        for name, parameters in JOB.items():
+            own = vars(module.Job)[name]
+            self.assertEqual(list(inspect.signature(own).parameters), ["self"] + parameters.split())
 
     def test_what_the_document_shows_ahead_of_all(self):
         from gathersheets.books import layout_of
